@@ -1,4 +1,8 @@
-"""Surfaces glued of squares: a list of calls goes in, a list of answers comes out."""
+"""The calls on one surface of squares: a list of calls goes in, a list of answers comes out."""
+
+from shearedsquares.orbits import count_less, has_too_many, orbit_of, wheel_length, wheel_lengths
+from shearedsquares.surfaces import SHEARED, TURNED, Surface, all_moved, corner_lengths, count_holes, count_selves
+from shearedsquares.surfaces import hangs_together, name_of, round_lengths, same_but_for_names
 
 BEGIN = 0
 GLUE = 1
@@ -9,30 +13,23 @@ NAME = 5
 SELVES = 6
 STATE = 7
 DO = 8
+ORBIT = 9
+WHEELS = 10
+WHEEL = 11
 WAY = 12
 REACHES = 13
+LEAST = 14
+PLACE = 15
 FIXES = 16
 
 NOT_BEGUN = -11
 NOT_RIGHT = -22
 NOT_TOGETHER = -33
-
-SHEARED = 0
-SHEARED_BACK = 1
-TURNED = 2
+NO_WAY = -34
+TOO_MANY = -75
 
 MOST_SQUARES = 6
 MOST_MOVES = 30
-
-
-class Surface:
-    """Squares as they are glued. It never changes: a move makes another one."""
-
-    def __init__(self, east, north):
-        self.east = east
-        self.north = north
-        self.west = backwards(east)
-        self.south = backwards(north)
 
 
 class Board:
@@ -64,100 +61,6 @@ class Reader:
         return row
 
 
-def backwards(steps):
-    """For each square the one whose step leads to it; steps tell each square once."""
-    back = [0] * len(steps)
-    for square, there in enumerate(steps):
-        back[there] = square
-    return back
-
-
-def round_from(first, steps):
-    """The squares that come from the first one, till it comes again."""
-    squares = [first]
-    there = steps[first]
-    while there != first:
-        squares.append(there)
-        there = steps[there]
-    return squares
-
-
-def round_lengths(steps):
-    """How long each round is, by its least square."""
-    lengths = []
-    for square in range(len(steps)):
-        squares = round_from(square, steps)
-        # Each round comes up once for each of its squares: only its least one counts.
-        if min(squares) == square:
-            lengths.append(len(squares))
-    return lengths
-
-
-def once_round(surface):
-    """For each square the one that comes by going once round its corner in the north east."""
-    return [surface.south[surface.west[surface.north[there]]] for there in surface.east]
-
-
-def corner_lengths(surface):
-    return round_lengths(once_round(surface))
-
-
-def count_holes(surface):
-    return (len(surface.east) - len(corner_lengths(surface))) // 2 + 1
-
-
-def order_from(square, surface):
-    """All squares that hang together with this one, eastern ones ahead of northern ones."""
-    order = [square]
-    turn = 0
-    while turn < len(order):
-        for there in (surface.east[order[turn]], surface.north[order[turn]]):
-            if there not in order:
-                order.append(there)
-        turn += 1
-    return order
-
-
-def hangs_together(surface):
-    return len(order_from(0, surface)) == len(surface.east)
-
-
-def renamed(order, surface):
-    """The eastern ones, then the northern ones, with the first square of the order called 0, and so on."""
-    called = backwards(order)
-    east = [called[surface.east[square]] for square in order]
-    north = [called[surface.north[square]] for square in order]
-    return east + north
-
-
-def all_renamed(surface):
-    """What the surface is renamed to by the order from each square."""
-    return [renamed(order_from(square, surface), surface) for square in range(len(surface.east))]
-
-
-def name_of(surface):
-    return min(all_renamed(surface))
-
-
-def count_selves(surface):
-    tables = all_renamed(surface)
-    return tables.count(tables[0])
-
-
-def moved(move, surface):
-    if move == SHEARED:
-        return Surface(surface.east, [surface.north[there] for there in surface.west])
-    if move == SHEARED_BACK:
-        return Surface(surface.east, [surface.north[there] for there in surface.east])
-    return Surface(surface.south, surface.east)
-
-
-def all_moved(moves, surface):
-    for move in moves:
-        surface = moved(move, surface)
-    return surface
-
-
 def tells_all_once(row, count):
     return sorted(row) == list(range(count))
 
@@ -173,6 +76,10 @@ def refusal_of_tables(east, north, count):
 
 def are_moves(row):
     return len(row) <= MOST_MOVES and max(row, default=SHEARED) <= TURNED
+
+
+def counted(numbers):
+    return [len(numbers)] + numbers
 
 
 def begin(board, count):
@@ -198,12 +105,44 @@ def do_moves(board, moves):
     return [len(moves)]
 
 
-def counted(numbers):
-    return [len(numbers)] + numbers
+def tell_if_fixed(surface, moves):
+    if not are_moves(moves):
+        return [NOT_RIGHT]
+    return [1 if same_but_for_names(surface, all_moved(moves, surface)) else 0]
+
+
+def tell_of_orbit(surface, number):
+    """What a call answers of all that come of the surface."""
+    orbit = orbit_of(surface)
+    if has_too_many(orbit):
+        return [TOO_MANY]
+    if number == WHEELS:
+        return counted(wheel_lengths(orbit))
+    if number == LEAST:
+        return counted(min(orbit.names))
+    if number == PLACE:
+        return [count_less(orbit)]
+    return [len(orbit.names)]
+
+
+def tell_of_another(surface, number, east, north):
+    """What reaches or way answers of the one that these tables tell."""
+    refusal = refusal_of_tables(east, north, len(surface.east))
+    if refusal != 0:
+        return [refusal]
+    orbit = orbit_of(surface)
+    if has_too_many(orbit):
+        return [TOO_MANY]
+    name = name_of(Surface(east, north))
+    if number == REACHES:
+        return [1 if name in orbit.names else 0]
+    if name not in orbit.names:
+        return [NO_WAY]
+    return counted(orbit.ways[orbit.names.index(name)])
 
 
 def tell(surface, number):
-    """What a call answers that is given nothing and changes nothing."""
+    """What a call answers that is given nothing and looks at the surface, or at few that come of it."""
     if number == CORNERS:
         return counted(corner_lengths(surface))
     if number == HOLES:
@@ -216,8 +155,9 @@ def tell(surface, number):
         return [count_selves(surface)]
     if number == STATE:
         return [len(surface.east)] + surface.east + surface.north
-    # No answer is better than a wrong one.
-    raise NotImplementedError(f"call {number} is not built yet")
+    if number == WHEEL:
+        return [wheel_length(surface)]
+    return tell_if_fixed(surface, [TURNED, TURNED])
 
 
 def count_rows(number):
@@ -241,6 +181,12 @@ def answer_next(board, reader):
         return glue(board, rows[0], rows[1])
     if number == DO:
         return do_moves(board, rows[0])
+    if number == FIXES:
+        return tell_if_fixed(board.surface, rows[0])
+    if number in (WAY, REACHES):
+        return tell_of_another(board.surface, number, rows[0], rows[1])
+    if number in (ORBIT, WHEELS, LEAST, PLACE):
+        return tell_of_orbit(board.surface, number)
     return tell(board.surface, number)
 
 

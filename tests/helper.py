@@ -1,5 +1,6 @@
 """What the tests share: calls by name, and a slow second telling of the document to compare with."""
 
+from functools import lru_cache
 from itertools import permutations
 
 from shearedsquares.squares import answers
@@ -120,3 +121,78 @@ def move(which, east, north):
     if which == 1:
         return list(east), [north[step(east, north, s, 0)] for s in squares]
     return [step(east, north, s, 3) for s in squares], [step(east, north, s, 0) for s in squares]
+
+
+def order(first, east, north):
+    """The order from a square."""
+    came = [first]
+    for turn in range(len(east)):
+        came += [east[came[turn]]] if east[came[turn]] not in came else []
+        came += [north[came[turn]]] if north[came[turn]] not in came else []
+    return came
+
+
+def told_from(first, east, north):
+    """The tables by the order from a square, as one list."""
+    came = order(first, east, north)
+    new = [came.index(square) for square in range(len(east))]
+    return sum(carried(new, east, north), [])
+
+
+def name(east, north):
+    """The name, as one tuple."""
+    return tuple(min(told_from(square, east, north) for square in range(len(east))))
+
+
+def halves(numbers):
+    """The eastern ones and the northern ones of a name."""
+    count = len(numbers) // 2
+    return list(numbers[:count]), list(numbers[count:])
+
+
+@lru_cache(maxsize=None)
+def move_name(which, numbers):
+    return name(*move(which, *halves(numbers)))
+
+
+@lru_cache(maxsize=None)
+def ways(numbers):
+    """All names that come of one, and the way to each: any way first, and bettered till none gets better."""
+    found = {numbers: ()}
+    bettered = True
+    while bettered:
+        bettered = False
+        for here in list(found):
+            for which in (2, 1, 0):
+                there, way = move_name(which, here), found[here] + (which,)
+                if there not in found or (len(way), way) < (len(found[there]), found[there]):
+                    found[there] = way
+                    bettered = True
+    return found
+
+
+def wheel(numbers):
+    """The names that come by shears alone."""
+    came = [numbers]
+    while move_name(0, came[-1]) != numbers:
+        came.append(move_name(0, came[-1]))
+    return came
+
+
+def wheels(numbers):
+    """How many names each wheel has of all that come, rising."""
+    return sorted(len(found) for found in {frozenset(wheel(there)) for there in ways(numbers)})
+
+
+@lru_cache(maxsize=None)
+def all_names(count):
+    """The names of all surfaces of so many squares."""
+    rows = list(permutations(range(count)))
+    # Whatever the eastern ones are, other names of the squares make them one of these: rounds told one behind another.
+    easts = {str(sorted(rounds(row))): row for row in rows}.values()
+    return sorted({name(e, n) for e in easts for n in rows if hang_together(e, n)})
+
+
+def one_of_each(count):
+    """The least of all that come of one another, of each such lot of names."""
+    return [numbers for numbers in all_names(count) if numbers == min(ways(numbers))]

@@ -48,6 +48,12 @@ def nodes(*kinds):
     return found
 
 
+def top_names(tree):
+    """The names that a file's top binds itself."""
+    found = [node.name for node in tree.body if isinstance(node, (ast.FunctionDef, ast.ClassDef))]
+    return found + [node.targets[0].id for node in tree.body if isinstance(node, ast.Assign)]
+
+
 class Form(unittest.TestCase):
     def test_files(self):
         self.assertIn("__init__.py", TEXTS)
@@ -71,6 +77,42 @@ class Form(unittest.TestCase):
         for node, where in nodes(ast.ImportFrom):
             self.assertEqual(node.level, 0, where)
             self.assertTrue(node.module.startswith("shearedsquares."), where)
+
+    def test_each_name_is_drawn_from_the_file_that_defines_it(self):
+        for node, where in nodes(ast.ImportFrom):
+            tree = TREES[node.module.split(".")[1] + ".py"]
+            for drawn in node.names:
+                self.assertIsNone(drawn.asname, where)
+                self.assertIn(drawn.name, top_names(tree), where)
+
+    def test_no_two_files_draw_from_one_another(self):
+        drawn = {name: {node.module.split(".")[1] + ".py" for node in ast.walk(tree) if isinstance(node, ast.ImportFrom)}
+                 for name, tree in TREES.items()}
+        for turn in TREES:
+            drawn = {name: found.union(*[drawn[other] for other in found]) for name, found in drawn.items()}
+        for name, found in drawn.items():
+            self.assertNotIn(name, found)
+
+    def test_each_name_once_and_none_hidden(self):
+        for name, tree in TREES.items():
+            top = top_names(tree)
+            self.assertEqual(len(top), len(set(top)), name)
+            taken = [alias.name for node in ast.walk(tree) if isinstance(node, ast.ImportFrom) for alias in node.names]
+            self.assertEqual(len(taken + top), len(set(taken + top)), name)
+            taken += [node.name for node in tree.body if isinstance(node, ast.ClassDef)]
+            for node in ast.walk(tree):
+                if isinstance(node, ast.arg):
+                    self.assertNotIn(node.arg, taken, f"{name}:{node.lineno}")
+                elif isinstance(node, ast.Name) and isinstance(node.ctx, ast.Store):
+                    self.assertNotIn(node.id, taken, f"{name}:{node.lineno}")
+
+    def test_no_method_is_called_like_a_value(self):
+        methods = {item.name for node, where in nodes(ast.ClassDef) for item in node.body
+                   if isinstance(item, ast.FunctionDef)}
+        for node, where in nodes(ast.Attribute):
+            if isinstance(node.ctx, ast.Store):
+                self.assertNotIn(node.attr, methods, where)
+                self.assertNotIn(node.attr, METHODS, where)
 
     def test_functions(self):
         for node, where in nodes(ast.FunctionDef):

@@ -2,7 +2,7 @@
 
 import unittest
 
-from tests.helper import all_carried, ask, ask_of, carried, surfaces
+from tests.helper import all_carried, ask, ask_of, surfaces, told_from
 
 ELL = ([1, 0, 2], [2, 1, 0])
 SIX = ([1, 0, 2, 4, 5, 3], [0, 2, 3, 1, 4, 5])
@@ -14,21 +14,6 @@ def name(east, north):
 
 def selves(east, north):
     return ask_of(east, north, "selves")[0]
-
-
-def order(first, east, north):
-    came = [first]
-    for turn in range(len(east)):
-        came += [east[came[turn]]] if east[came[turn]] not in came else []
-        came += [north[came[turn]]] if north[came[turn]] not in came else []
-    return came
-
-
-def told_from(first, east, north):
-    """The tables by the order from a square, as one list."""
-    came = order(first, east, north)
-    new = [came.index(square) for square in range(len(east))]
-    return sum(carried(new, east, north), [])
 
 
 class Name(unittest.TestCase):
